@@ -1,0 +1,1 @@
+"""Files renamed at once, whole."""

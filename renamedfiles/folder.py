@@ -1,0 +1,150 @@
+"""The folder: its files, the wish that may be under way, and the calls on them."""
+
+from renamedfiles.naming import is_name, is_rule, new_name
+from renamedfiles.reader import Reader
+from renamedfiles.renaming import next_renaming, renamings_left
+
+MOST_FILES = 16
+
+BEGIN = 0
+ADD = 1
+WISH = 2
+STEP = 3
+FINISH = 4
+
+TOO_MANY_FILES = -12
+WISH_UNDER_WAY = -15
+NAME_TAKEN = -17
+NOT_VALID = -22
+NO_WISH = -61
+NO_RULE = -71
+NO_NEW_NAME = -1000
+SAME_NEW_NAME = -2000
+
+
+class UnknownCall(ValueError):
+    pass
+
+
+class Folder:
+    def __init__(self):
+        self.names = []
+        # Without a wish this is None; with one, of each file the name that it's to get.
+        self.wanted = None
+        # The renamings since the wish was made, each as the file and the name that it had before.
+        self.done = []
+
+    def begin(self):
+        self.names = []
+        self.end_wish()
+        return 0
+
+    def add(self, name):
+        if self.wanted is not None:
+            return WISH_UNDER_WAY
+        if not is_name(name):
+            return NOT_VALID
+        if name in self.names:
+            return NAME_TAKEN
+        if len(self.names) == MOST_FILES:
+            return TOO_MANY_FILES
+        self.names.append(name)
+        return len(self.names) - 1
+
+    def wish(self, rule, start, files):
+        if self.wanted is not None:
+            return WISH_UNDER_WAY
+        if not is_rule(rule):
+            return NO_RULE
+        if not can_be_told(files, len(self.names)):
+            return NOT_VALID
+        wanted = names_by_rule(self.names, rule, start, files)
+        refusal = refusal_of_names(wanted)
+        if refusal < 0:
+            return refusal
+        count = renamings_left(self.names, wanted)
+        if count > 0:
+            self.wanted = wanted
+        return count
+
+    def step(self):
+        if self.wanted is None:
+            return NO_WISH
+        self.rename_next()
+        if self.names != self.wanted:
+            return 1
+        self.end_wish()
+        return 0
+
+    def finish(self):
+        if self.wanted is None:
+            return NO_WISH
+        while self.names != self.wanted:
+            self.rename_next()
+        self.end_wish()
+        return 0
+
+    def rename_next(self):
+        renaming = next_renaming(self.names, self.wanted)
+        file = renaming[0]
+        self.done.append((file, self.names[file]))
+        self.names[file] = renaming[1]
+
+    def end_wish(self):
+        self.wanted = None
+        self.done = []
+
+
+def can_be_told(files, count):
+    for place in range(len(files)):
+        if files[place] >= count or files[place] in files[:place]:
+            return False
+    return True
+
+
+def names_by_rule(names, rule, start, files):
+    wanted = list(names)
+    for place in range(len(files)):
+        file = files[place]
+        wanted[file] = new_name(rule, names[file], start + place)
+    return wanted
+
+
+def refusal_of_names(wanted):
+    # Two loops, since a file that gets no name comes ahead of any two that get the same.
+    for file in range(len(wanted)):
+        if wanted[file] is None:
+            return NO_NEW_NAME - file
+    for file in range(len(wanted)):
+        if wanted[file] in wanted[:file]:
+            return SAME_NEW_NAME - file
+    return 0
+
+
+def answer(folder, reader):
+    call = reader.take_number()
+    if call == BEGIN:
+        return [folder.begin()]
+    if call == ADD:
+        return [folder.add(reader.take_row())]
+    if call == WISH:
+        start = reader.take_number()
+        rule = reader.take_row()
+        files = reader.take_row()
+        return [folder.wish(rule, start, files)]
+    if call == STEP:
+        return [folder.step()]
+    if call == FINISH:
+        return [folder.finish()]
+    raise UnknownCall(f"no such call: {call}")
+
+
+def answers(calls):
+    folder = Folder()
+    reader = Reader(calls)
+    given = []
+    while not reader.at_end():
+        numbers = answer(folder, reader)
+        given.append(len(numbers))
+        given.extend(numbers)
+    return given
