@@ -11,7 +11,13 @@ ADD = 1
 WISH = 2
 STEP = 3
 FINISH = 4
+BACK = 5
+ALL = 6
+NAME = 7
+FIND = 8
+STATE = 9
 
+NOT_THERE = -2
 TOO_MANY_FILES = -12
 WISH_UNDER_WAY = -15
 NAME_TAKEN = -17
@@ -84,11 +90,48 @@ class Folder:
         self.end_wish()
         return 0
 
+    def back(self):
+        if self.wanted is None:
+            return NO_WISH
+        if len(self.done) == 0:
+            self.end_wish()
+            return 0
+        self.take_back_last()
+        return 1
+
+    def take_back_all(self):
+        if self.wanted is None:
+            return NO_WISH
+        while len(self.done) > 0:
+            self.take_back_last()
+        self.end_wish()
+        return 0
+
+    def name_now(self, file):
+        if file >= len(self.names):
+            return [NOT_THERE]
+        name = self.names[file]
+        return [len(name)] + list(name)
+
+    def find(self, name):
+        if name not in self.names:
+            return NOT_THERE
+        return self.names.index(name)
+
+    def state(self):
+        if self.wanted is None:
+            return [0, len(self.names), 0, 0]
+        return [1, len(self.names), len(self.done), renamings_left(self.names, self.wanted)]
+
     def rename_next(self):
         renaming = next_renaming(self.names, self.wanted)
         file = renaming[0]
         self.done.append((file, self.names[file]))
         self.names[file] = renaming[1]
+
+    def take_back_last(self):
+        renaming = self.done.pop()
+        self.names[renaming[0]] = renaming[1]
 
     def end_wish(self):
         self.wanted = None
@@ -136,6 +179,16 @@ def answer(folder, reader):
         return [folder.step()]
     if call == FINISH:
         return [folder.finish()]
+    if call == BACK:
+        return [folder.back()]
+    if call == ALL:
+        return [folder.take_back_all()]
+    if call == NAME:
+        return folder.name_now(reader.take_number())
+    if call == FIND:
+        return [folder.find(reader.take_row())]
+    if call == STATE:
+        return folder.state()
     raise UnknownCall(f"no such call: {call}")
 
 

@@ -1,25 +1,20 @@
-"""Point 4, as far as it speaks of step and finish; what holds in the midst and at the end."""
+"""Point 4, as far as it speaks of step and finish."""
 
-import itertools
 import unittest
 
-from folder_calls import (BEGIN, FINISH, STEP, add, answers_behind, folder_of, names_in, single_answers, wish,
-                          wish_on)
+from folder_calls import BEGIN, FINISH, STEP, add, answers_behind, names_along, names_behind, single_answers, wish
 
 SIXTEEN = [f"{number:02}" for number in range(16)]
 
 
 def names_step_by_step(names, rule, start, files):
-    folder = folder_of(names)
-    left = wish_on(folder, rule, start, files)
-    seen = []
-    while left > 0:
-        answered = folder.step()
-        left -= 1
-        if answered != (1 if left > 0 else 0):
-            raise AssertionError(f"step answered {answered} with {left} left")
-        seen.append(names_in(folder))
-    return seen
+    wished = wish(rule, start, files)
+    many = answers_behind(names, [wished])[0]
+    calls = [wished] + [STEP] * many
+    expected = [many] + [1] * (many - 1) + [0] * (many > 0)
+    if answers_behind(names, calls) != expected:
+        raise AssertionError(f"not {expected}: {answers_behind(names, calls)}")
+    return names_along(names, calls)[1:]
 
 
 class WithoutAWish(unittest.TestCase):
@@ -86,67 +81,18 @@ class Finish(unittest.TestCase):
         self.assertEqual(answers_behind(["a", "b"], calls), [2, 0, -17, -17, 2, 3])
 
     def test_16_files_in_one_ring_from_wherever_in_the_midst(self):
-        files = list(range(1, 16)) + [0]
+        wished = wish("##", 0, list(range(1, 16)) + [0])
         for steps in range(17):
             with self.subTest(steps=steps):
-                folder = folder_of(SIXTEEN)
-                self.assertEqual(wish_on(folder, "##", 0, files), 17)
-                self.assertEqual([folder.step() for number in range(steps)], [1] * steps)
-                self.assertEqual(folder.finish(), 0)
-                self.assertEqual(names_in(folder), ["15"] + SIXTEEN[:15])
-                self.assertEqual(folder.finish(), -61)
+                calls = [wished] + [STEP] * steps + [FINISH]
+                self.assertEqual(answers_behind(SIXTEEN, calls + [FINISH]), [17] + [1] * steps + [0, -61])
+                self.assertEqual(names_behind(SIXTEEN, calls), ["15"] + SIXTEEN[:15])
 
     def test_seen_from_outside_from_wherever_in_the_midst(self):
         for steps in range(3):
             with self.subTest(steps=steps):
                 calls = [wish("#", 0, [1, 0])] + [STEP] * steps + [FINISH, wish("#", 0, [1, 0]), wish("#", 0, [0, 1])]
                 self.assertEqual(answers_behind(["0", "1"], calls), [3] + [1] * steps + [0, 0, 3])
-
-
-class WhatHolds(unittest.TestCase):
-    def check(self, names, rule, start, files):
-        before = names
-        wished = list(names)
-        for place, file in enumerate(files):
-            wished[file] = str(start + place)
-        for now in names_step_by_step(names, rule, start, files):
-            self.assertEqual(len(set(now)), len(now))
-            changed = [file for file in range(len(now)) if now[file] != before[file]]
-            self.assertEqual(len(changed), 1)
-            self.assertNotIn(now[changed[0]], before)
-            self.assertIn(now[changed[0]], (wished[changed[0]], "~"))
-            before = now
-        self.assertEqual(before, wished)
-
-    def test_over_every_order_of_five_and_every_move(self):
-        names = ["3", "1", "4", "0", "2"]
-        for start in range(5):
-            for files in itertools.permutations(range(5)):
-                with self.subTest(start=start, files=files):
-                    self.check(names, "#", start, files)
-
-    def test_over_some_of_four_files(self):
-        names = ["0", "1", "2", "9"]
-        for many in range(1, 4):
-            for files in itertools.permutations(range(4), many):
-                wished = [str(place) for place in range(many)]
-                stay = [names[file] for file in range(4) if file not in files]
-                if not set(wished) & set(stay):
-                    with self.subTest(files=files):
-                        self.check(names, "#", 0, files)
-
-
-class TheRenamingsDone(unittest.TestCase):
-    def test_the_wish_keeps_the_file_and_the_name_from_before(self):
-        folder = folder_of(["0", "1"])
-        wish_on(folder, "#", 0, [1, 0])
-        kept = []
-        for name, file in (("0", 0), ("1", 1)):
-            folder.step()
-            kept.append((file, (ord(name),)))
-            self.assertEqual(folder.done, kept)
-        folder.step()
-        self.assertEqual(folder.done, [])
 
 
 if __name__ == "__main__":
